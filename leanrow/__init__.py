@@ -1,0 +1,1 @@
+"""Leanrow: things in one row, each behind all that it leans on."""
