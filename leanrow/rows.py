@@ -53,6 +53,13 @@ class Row:
         """The pairs (NAME, OTHER), as they were told."""
         return self._web.leanings()
 
+    def twin(self):
+        """Another row, which stands alike and to which all that holds here was told likewise."""
+        alike = Row()
+        alike._web = self._web.twin()
+        alike._names = list(self._names)
+        return alike
+
     def _fill_anew(self, first, moved):
         """Put those that move, in their new order, into the places that they have, from first on."""
         places = [at for at in range(first, len(self._names)) if self._names[at] in moved]

@@ -102,6 +102,13 @@ class Web:
             backwards.append(reached_from[backwards[-1]])
         return backwards[::-1]
 
+    def twin(self):
+        """Another web, to which all that holds here was told likewise."""
+        alike = Web()
+        alike._things = list(self._things)
+        alike._leanings = list(self._leanings)
+        return alike
+
     def need(self, name):
         """Refuse whatever is not the name of a thing that is there."""
         # What is no text is asked nothing more: it may be of any kind, and answer in any way.

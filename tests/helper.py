@@ -1,8 +1,13 @@
 """What the tests share: a plain second telling of the document, odd things to hand in, drawn deeds."""
 
+import itertools
+import os
 import random
+import subprocess
+import sys
 
 from leanrow import errors
+from leanrow.rows import Row
 
 ALPHABET = "abcdefghijklmnopqrstuvwxyz"
 
@@ -143,6 +148,88 @@ class PlainRow:
         return moved
 
 
+class PlainLog:
+    """The log as the document tells it: its deeds by their words, all done anew from none whenever it is asked."""
+
+    def __init__(self):
+        self.deeds = []
+        self.gone = []
+
+    def row(self):
+        row = PlainRow()
+        for word, *handed in self.deeds:
+            getattr(row, word)(*handed)
+        return row
+
+    def do(self, deed):
+        word, *handed = deed
+        if word == "back" or word == "again":
+            source, target = (self.deeds, self.gone) if word == "back" else (self.gone, self.deeds)
+            if not source:
+                return "NothingDone"
+            target.append(source.pop())
+            return None
+        told = getattr(self.row(), word)(*handed)
+        if type(told) is not str:
+            self.deeds, self.gone = self.deeds + [deed], []
+        return told
+
+
+def plain_levels(names, leanings):
+    """The level of each thing: raised wherever it is too low, one leaning at a time, until none is."""
+    levels = {name: 0 for name in names}
+    while True:
+        low = [(x, y) for x, y in leanings if levels[x] <= levels[y]]
+        if not low:
+            return levels
+        levels[low[0][0]] = levels[low[0][1]] + 1
+
+
+def is_right_list(names, leanings, told):
+    """Whether a list of texts tells each name once, each behind all that it leans on."""
+    return (sorted(told) == sorted(names)
+            and all(other in told[:at] for at, name in enumerate(told) for x, other in leanings if x == name))
+
+
+def right_rows(names, leanings):
+    """All right rows, by letters, by trying each order."""
+    return [list(told) for told in itertools.permutations(sorted(names)) if is_right_list(names, leanings, told)]
+
+
+def drawn_right_row(seed, names, leanings):
+    """A right row, drawn place by place."""
+    drawer = random.Random(seed)
+    told = []
+    while len(told) < len(names):
+        told.append(drawer.choice([name for name in names if name not in told
+                                   and all(other in told for x, other in leanings if x == name)]))
+    return told
+
+
+def drawn_rows(count):
+    """Rows behind many drawn deeds, each with its names and leanings as a plain row tells them."""
+    for seed in range(count):
+        row, plain = Row(), PlainRow()
+        for deed in drawn_deeds(seed, 40 + seed * 7, 3 + seed % 29):
+            do(row, deed)
+            do(plain, deed)
+        yield row, plain.row, plain.told
+
+
+def long_chain(count):
+    """Names, and the leanings of each of them on the next one."""
+    names = [name_of(number * 7 % 676) for number in range(count)]
+    return names, list(zip(names, names[1:]))
+
+
+def row_of(names, leanings=()):
+    return filled(Row(), names, leanings)
+
+
+def row_state(row):
+    return row.names(), row.leanings(), [row.place(name) for name in row.names()]
+
+
 def drawn_deeds(seed, count, many):
     """Deeds by their words, over so many names; more leanings than loosened ones, more puts than takes."""
     drawer = random.Random(seed)
@@ -178,3 +265,12 @@ def filled(target, names, leanings):
     for name, other in leanings:
         target.lean(name, other)
     return target
+
+
+def printed_in_runs(script):
+    """What a script prints in runs of Python that hash texts each in another way."""
+    here = os.path.dirname(os.path.abspath(__file__))
+    path = os.pathsep.join([here, os.path.dirname(here)])
+    return [subprocess.run([sys.executable, "-c", script], check=True, stdout=subprocess.PIPE,
+                           env={**os.environ, "PYTHONPATH": path, "PYTHONHASHSEED": seed}).stdout
+            for seed in ("1", "2", "77")]

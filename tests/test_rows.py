@@ -5,17 +5,9 @@ import random
 import unittest
 
 import helper
+from helper import row_of, row_state as state
 from leanrow.errors import BadName, NoLeaning, NoThing, Ring, TooMany, Twice
 from leanrow.rows import Row
-
-
-def row_of(names, leanings=()):
-    return helper.filled(Row(), names, leanings)
-
-
-def state(row):
-    names = row.names()
-    return names, row.leanings(), [row.place(name) for name in names]
 
 
 class Puts(unittest.TestCase):

@@ -1,10 +1,7 @@
 """Webs: names [2], leanings and chains [3], rings [4], what is told and handed in [1], the same each time [10]."""
 
 import itertools
-import os
 import random
-import subprocess
-import sys
 import unittest
 
 import helper
@@ -404,14 +401,9 @@ class TheSameEachTime(unittest.TestCase):
                 self.assertEqual(self.tell_all(web_of(names, leanings)), told)
 
     def test_the_same_in_each_run_of_python(self):
-        here = os.path.dirname(os.path.abspath(__file__))
-        path = os.pathsep.join([here, os.path.dirname(here)])
-        told = [subprocess.run([sys.executable, "-c", TELL_ALL], check=True, stdout=subprocess.PIPE,
-                               env={**os.environ, "PYTHONPATH": path, "PYTHONHASHSEED": seed}).stdout
-                for seed in ("1", "2", "77")]
+        told = helper.printed_in_runs(TELL_ALL)
         self.assertGreater(len(told[0]), 1000)
-        self.assertEqual(told[1], told[0])
-        self.assertEqual(told[2], told[0])
+        self.assertEqual(len(set(told)), 1)
 
 
 if __name__ == "__main__":
